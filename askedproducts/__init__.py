@@ -1,0 +1,1 @@
+"""Systems solved by asking for products with a matrix that nobody sees."""

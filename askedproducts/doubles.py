@@ -1,0 +1,110 @@
+"""Finite doubles, told by their 64 bits, and their reckoning with one rounding a step.
+
+Every finite double is a whole number of times the least denormal, 2 to the power of -1074.
+So a double is taken here as a sign and mantissa * 2 to the power of exponent, in units of
+that least denormal, and the exponent is never below 0.
+"""
+
+SIGN = 0x8000000000000000
+INFINITE = 0x7FF0000000000000
+FRACTION = 0x000FFFFFFFFFFFFF
+FRACTION_BITS = 52
+MANTISSA_BITS = 53
+# One is 2 to this power, in units of the least denormal.
+UNIT_EXPONENT = 1074
+# A quotient of two mantissas keeps 56 bits or more with this shift: enough to round by.
+QUOTIENT_SHIFT = 108
+
+
+class NotFinite(Exception):
+    pass
+
+
+def check_finite(bits):
+    if bits & INFINITE == INFINITE:
+        raise NotFinite()
+
+
+def mantissa_of(bits):
+    if bits & INFINITE == 0:
+        return bits & FRACTION
+    return (bits & FRACTION) + FRACTION + 1
+
+
+def exponent_of(bits):
+    # Denormals and the least normal doubles have the same exponent.
+    return max((bits & INFINITE) >> FRACTION_BITS, 1) - 1
+
+
+def without_low_bits(mantissa, dropped):
+    half = 1 << (dropped - 1)
+    rest = mantissa & (half + half - 1)
+    kept = mantissa >> dropped
+    if rest > half or (rest == half and kept & 1 == 1):
+        return kept + 1
+    return kept
+
+
+def rounded(sign, mantissa, exponent):
+    if mantissa == 0:
+        return sign
+    dropped = max(mantissa.bit_length() - MANTISSA_BITS, -exponent)
+    if dropped > 0:
+        kept = without_low_bits(mantissa, dropped)
+    else:
+        kept = mantissa << -dropped
+    # The top bit of a normal mantissa, or a carry out of the rounding, raises the exponent's bits by itself.
+    bits = ((exponent + dropped) << FRACTION_BITS) + kept
+    if bits >= INFINITE:
+        raise NotFinite()
+    return sign | bits
+
+
+def negated(bits):
+    return bits ^ SIGN
+
+
+def signed_mantissa(bits):
+    if bits & SIGN == SIGN:
+        return -mantissa_of(bits)
+    return mantissa_of(bits)
+
+
+def plus(left, right):
+    exponent = min(exponent_of(left), exponent_of(right))
+    whole = signed_mantissa(left) << (exponent_of(left) - exponent)
+    whole = whole + (signed_mantissa(right) << (exponent_of(right) - exponent))
+    if whole == 0:
+        # A sum of 0 has a minus only if both sides have one.
+        return left & right & SIGN
+    return rounded(SIGN if whole < 0 else 0, abs(whole), exponent)
+
+
+def minus(left, right):
+    return plus(left, negated(right))
+
+
+def times(left, right):
+    exponent = exponent_of(left) + exponent_of(right) - UNIT_EXPONENT
+    return rounded((left ^ right) & SIGN, mantissa_of(left) * mantissa_of(right), exponent)
+
+
+def over(left, right):
+    # The callers have found the right side above 0, so it is never 0 here.
+    divided = mantissa_of(left) << QUOTIENT_SHIFT
+    quotient = (divided // mantissa_of(right)) << 1
+    if divided % mantissa_of(right) != 0:
+        # One low bit stands for all that is left over, so that it isn't taken for a tie.
+        quotient = quotient + 1
+    exponent = exponent_of(left) - exponent_of(right) + UNIT_EXPONENT - QUOTIENT_SHIFT - 1
+    return rounded((left ^ right) & SIGN, quotient, exponent)
+
+
+def ordered(bits):
+    if bits & SIGN == SIGN:
+        return SIGN - bits
+    return bits
+
+
+def above(left, right):
+    return ordered(left) > ordered(right)

@@ -1,0 +1,133 @@
+"""The calls: each asks for products with a matrix that it never sees."""
+
+from askedproducts.doubles import NotFinite, above, check_finite, minus, over, plus, times
+
+MOST_DOUBLES = 4096
+MOST_TIMES = 4000
+ZERO = 0
+OUT_OF_RANGE = -2
+NOT_FINITE = -4
+NOT_ABOVE_ZERO = -5
+
+
+class OutOfRange(Exception):
+    pass
+
+
+class NotAboveZero(Exception):
+    pass
+
+
+class AnswerWanting(Exception):
+    pass
+
+
+class Asking:
+    def __init__(self, answers):
+        self.answers = answers
+        self.questions = []
+
+    def ask(self, row):
+        place = len(self.questions)
+        self.questions.append(row)
+        if place == len(self.answers):
+            raise AnswerWanting()
+        answer = self.answers[place]
+        check_row(answer)
+        return answer
+
+    def asked(self):
+        numbers = [len(self.questions)]
+        for question in self.questions:
+            numbers.extend(question)
+        return numbers
+
+
+def told(asking, reckon):
+    try:
+        answered = reckon()
+    except OutOfRange:
+        answered = [OUT_OF_RANGE]
+    except NotFinite:
+        answered = [NOT_FINITE]
+    except NotAboveZero:
+        answered = [NOT_ABOVE_ZERO]
+    except AnswerWanting:
+        answered = []
+    return asking.asked() + answered
+
+
+def check_range(number, least, most):
+    if number < least or number > most:
+        raise OutOfRange()
+
+
+def check_row(row):
+    for double in row:
+        check_finite(double)
+
+
+def check_above_zero(double):
+    if not above(double, ZERO):
+        raise NotAboveZero()
+
+
+def check_system(n, near, most, b, x):
+    check_range(n, 1, MOST_DOUBLES)
+    check_range(most, 0, MOST_TIMES)
+    check_row(b)
+    check_row(x)
+    check_finite(near)
+    # Only now, since what isn't finite is refused ahead of a near below 0.
+    if above(ZERO, near):
+        raise OutOfRange()
+
+
+def dot(left, right):
+    total = ZERO
+    for u, v in zip(left, right):
+        total = plus(total, times(u, v))
+    return total
+
+
+def row_minus(left, right):
+    return [minus(u, v) for u, v in zip(left, right)]
+
+
+def row_plus_scaled(row, scale, other):
+    return [plus(u, times(scale, v)) for u, v in zip(row, other)]
+
+
+def row_minus_scaled(row, scale, other):
+    return [minus(u, times(scale, v)) for u, v in zip(row, other)]
+
+
+def conjugate_gradients(asking, near, most, b, x):
+    r = row_minus(b, asking.ask(x))
+    p = r
+    c = dot(r, r)
+    e = times(times(near, near), dot(b, b))
+    done = 0
+    while done < most and above(c, e):
+        q = asking.ask(p)
+        d = dot(p, q)
+        check_above_zero(d)
+        a = over(c, d)
+        x = row_plus_scaled(x, a, p)
+        r = row_minus_scaled(r, a, q)
+        g = dot(r, r)
+        t = over(g, c)
+        p = row_plus_scaled(r, t, p)
+        c = g
+        done = done + 1
+    return [done] + x
+
+
+def solve(n, near, most, b, x, answers):
+    asking = Asking(answers)
+
+    def reckon():
+        check_system(n, near, most, b, x)
+        return conjugate_gradients(asking, near, most, b, x)
+
+    return told(asking, reckon)

@@ -1,0 +1,111 @@
+"""The document's words reckoned with Python's own floats, for the tests to hold the program against."""
+
+import math
+import struct
+
+
+def bits_of(number):
+    return struct.unpack("<Q", struct.pack("<d", number))[0]
+
+
+def double_of(bits):
+    return struct.unpack("<d", struct.pack("<Q", bits))[0]
+
+
+def row_of_bits(numbers):
+    return [bits_of(number) for number in numbers]
+
+
+def row_of_doubles(row):
+    return [double_of(bits) for bits in row]
+
+
+class Over(Exception):
+    """The call is over: what is answered, and at which step that was seen."""
+
+    def __init__(self, answered, step):
+        super().__init__(step)
+        self.answered = answered
+        self.step = step
+
+
+def finite(number, step):
+    if not math.isfinite(number):
+        raise Over([-4], step)
+    return number
+
+
+class Reckoning:
+    """One call: the questions asked so far, and the steps that need a name for the tests."""
+
+    def __init__(self, answers):
+        self.answers = [row_of_doubles(answer) for answer in answers]
+        self.questions = []
+
+    def ask(self, row):
+        self.questions.append(list(row))
+        if len(self.questions) > len(self.answers):
+            raise Over([], "wanting")
+        answer = self.answers[len(self.questions) - 1]
+        for number in answer:
+            finite(number, "answer")
+        return answer
+
+    def told(self, answered):
+        numbers = [len(self.questions)]
+        for question in self.questions:
+            numbers += row_of_bits(question)
+        return numbers + answered
+
+
+def dot(x, y, name):
+    s = 0.0
+    for i in range(len(x)):
+        product = finite(x[i] * y[i], name + ": product")
+        s = finite(s + product, name + ": sum")
+    return s
+
+
+def solve_steps(reckoning, n, near, most, b, x):
+    if not 1 <= n <= 4096 or not 0 <= most <= 4000:
+        raise Over([-2], "range")
+    for number in b + x + [near]:
+        finite(number, "handed over")
+    if near < 0.0:
+        raise Over([-2], "near below 0")
+    answer = reckoning.ask(x)
+    r = [finite(b[i] - answer[i], "b - A x") for i in range(n)]
+    p = r
+    c = dot(r, r, "first r . r")
+    square = finite(near * near, "near * near")
+    e = finite(square * dot(b, b, "b . b"), "e")
+    times = 0
+    while times < most and c > e:
+        q = reckoning.ask(p)
+        d = dot(p, q, "p . q")
+        if not d > 0.0:
+            raise Over([-5], "d")
+        a = finite(c / d, "c / d")
+        moved = [finite(a * p[i], "a * p") for i in range(n)]
+        x = [finite(x[i] + moved[i], "x + a * p") for i in range(n)]
+        moved = [finite(a * q[i], "a * q") for i in range(n)]
+        r = [finite(r[i] - moved[i], "r - a * q") for i in range(n)]
+        g = dot(r, r, "later r . r")
+        t = finite(g / c, "g / c")
+        moved = [finite(t * p[i], "t * p") for i in range(n)]
+        p = [finite(r[i] + moved[i], "r + t * p") for i in range(n)]
+        c = g
+        times += 1
+    return [times] + row_of_bits(x), "most" if times == most else "near"
+
+
+def solve(n, near, most, b, x, answers):
+    """What solve must give back, and the step at which the call was over."""
+    reckoning = Reckoning(answers)
+    try:
+        answered, step = solve_steps(
+            reckoning, n, double_of(near), most, row_of_doubles(b), row_of_doubles(x)
+        )
+    except Over as over:
+        answered, step = over.answered, over.step
+    return reckoning.told(answered), step
