@@ -102,7 +102,15 @@ def row_minus_scaled(row, scale, other):
     return [minus(u, times(scale, v)) for u, v in zip(row, other)]
 
 
-def conjugate_gradients(asking, near, most, b, x):
+def conjugate(r, g, c, p):
+    return row_plus_scaled(r, over(g, c), p)
+
+
+def steepest(r, g, c, p):
+    return r
+
+
+def descent(asking, near, most, b, x, turned):
     r = row_minus(b, asking.ask(x))
     p = r
     c = dot(r, r)
@@ -116,18 +124,25 @@ def conjugate_gradients(asking, near, most, b, x):
         x = row_plus_scaled(x, a, p)
         r = row_minus_scaled(r, a, q)
         g = dot(r, r)
-        t = over(g, c)
-        p = row_plus_scaled(r, t, p)
+        p = turned(r, g, c, p)
         c = g
         done = done + 1
     return [done] + x
 
 
-def solve(n, near, most, b, x, answers):
+def descended(n, near, most, b, x, answers, turned):
     asking = Asking(answers)
 
     def reckon():
         check_system(n, near, most, b, x)
-        return conjugate_gradients(asking, near, most, b, x)
+        return descent(asking, near, most, b, x, turned)
 
     return told(asking, reckon)
+
+
+def solve(n, near, most, b, x, answers):
+    return descended(n, near, most, b, x, answers, conjugate)
+
+
+def slide(n, near, most, b, x, answers):
+    return descended(n, near, most, b, x, answers, steepest)

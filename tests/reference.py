@@ -66,7 +66,8 @@ def dot(x, y, name):
     return s
 
 
-def solve_steps(reckoning, n, near, most, b, x):
+def begin(reckoning, n, near, most, b, x):
+    """What solve and slide do ahead of their loops: r, c and e."""
     if not 1 <= n <= 4096 or not 0 <= most <= 4000:
         raise Over([-2], "range")
     for number in b + x + [near]:
@@ -75,10 +76,15 @@ def solve_steps(reckoning, n, near, most, b, x):
         raise Over([-2], "near below 0")
     answer = reckoning.ask(x)
     r = [finite(b[i] - answer[i], "b - A x") for i in range(n)]
-    p = r
     c = dot(r, r, "first r . r")
     square = finite(near * near, "near * near")
     e = finite(square * dot(b, b, "b . b"), "e")
+    return r, c, e
+
+
+def solve_steps(reckoning, n, near, most, b, x):
+    r, c, e = begin(reckoning, n, near, most, b, x)
+    p = r
     times = 0
     while times < most and c > e:
         q = reckoning.ask(p)
@@ -99,13 +105,39 @@ def solve_steps(reckoning, n, near, most, b, x):
     return [times] + row_of_bits(x), "most" if times == most else "near"
 
 
-def solve(n, near, most, b, x, answers):
-    """What solve must give back, and the step at which the call was over."""
+def slide_steps(reckoning, n, near, most, b, x):
+    r, c, e = begin(reckoning, n, near, most, b, x)
+    times = 0
+    while times < most and c > e:
+        q = reckoning.ask(r)
+        d = dot(r, q, "r . q")
+        if not d > 0.0:
+            raise Over([-5], "d")
+        a = finite(c / d, "c / d")
+        moved = [finite(a * r[i], "a * r") for i in range(n)]
+        x = [finite(x[i] + moved[i], "x + a * r") for i in range(n)]
+        moved = [finite(a * q[i], "a * q") for i in range(n)]
+        r = [finite(r[i] - moved[i], "r - a * q") for i in range(n)]
+        c = dot(r, r, "later r . r")
+        times += 1
+    return [times] + row_of_bits(x), "most" if times == most else "near"
+
+
+def outcome(steps, answers, arguments):
+    """What the call must give back, and the step at which it was over."""
     reckoning = Reckoning(answers)
     try:
-        answered, step = solve_steps(
-            reckoning, n, double_of(near), most, row_of_doubles(b), row_of_doubles(x)
-        )
+        answered, step = steps(reckoning, *arguments)
     except Over as over:
         answered, step = over.answered, over.step
     return reckoning.told(answered), step
+
+
+def solve(n, near, most, b, x, answers):
+    arguments = (n, double_of(near), most, row_of_doubles(b), row_of_doubles(x))
+    return outcome(solve_steps, answers, arguments)
+
+
+def slide(n, near, most, b, x, answers):
+    arguments = (n, double_of(near), most, row_of_doubles(b), row_of_doubles(x))
+    return outcome(slide_steps, answers, arguments)
