@@ -14,6 +14,8 @@ MANTISSA_BITS = 53
 UNIT_EXPONENT = 1074
 # A quotient of two mantissas keeps 56 bits or more with this shift: enough to round by.
 QUOTIENT_SHIFT = 108
+# The whole root of a mantissa keeps 56 bits or more with this shift: enough to round by.
+ROOT_SHIFT = 110
 
 
 class NotFinite(Exception):
@@ -89,15 +91,39 @@ def times(left, right):
     return rounded((left ^ right) & SIGN, mantissa_of(left) * mantissa_of(right), exponent)
 
 
+def with_rest(whole, rest):
+    # One low bit stands for all that is left over, so that it isn't taken for a tie.
+    return (whole << 1) + (1 if rest != 0 else 0)
+
+
 def over(left, right):
     # The callers have found the right side above 0, so it is never 0 here.
     divided = mantissa_of(left) << QUOTIENT_SHIFT
-    quotient = (divided // mantissa_of(right)) << 1
-    if divided % mantissa_of(right) != 0:
-        # One low bit stands for all that is left over, so that it isn't taken for a tie.
-        quotient = quotient + 1
+    quotient = with_rest(divided // mantissa_of(right), divided % mantissa_of(right))
     exponent = exponent_of(left) - exponent_of(right) + UNIT_EXPONENT - QUOTIENT_SHIFT - 1
     return rounded((left ^ right) & SIGN, quotient, exponent)
+
+
+def whole_root(number):
+    # Newton's steps begin above the root and go down till they have reached its whole part.
+    reached = 1 << ((number.bit_length() + 1) >> 1)
+    lower = (reached + number // reached) >> 1
+    while lower < reached:
+        reached = lower
+        lower = (reached + number // reached) >> 1
+    return reached
+
+
+def root(bits):
+    # The callers take the root of sums of squares alone, so it is never one of a double below 0.
+    if mantissa_of(bits) == 0:
+        return bits
+    # What is left of the exponent must be even, so that it can be halved.
+    shift = ROOT_SHIFT + (exponent_of(bits) & 1)
+    square = mantissa_of(bits) << shift
+    whole = whole_root(square)
+    exponent = ((exponent_of(bits) + UNIT_EXPONENT - shift) >> 1) - 1
+    return rounded(0, with_rest(whole, square - whole * whole), exponent)
 
 
 def ordered(bits):

@@ -1,6 +1,6 @@
 """The calls: each asks for products with a matrix that it never sees."""
 
-from askedproducts.doubles import NotFinite, above, check_finite, minus, over, plus, times
+from askedproducts.doubles import NotFinite, above, check_finite, minus, over, plus, root, times
 
 MOST_DOUBLES = 4096
 MOST_TIMES = 4000
@@ -90,6 +90,21 @@ def dot(left, right):
     return total
 
 
+def length(row):
+    return root(dot(row, row))
+
+
+def row_over(row, divisor):
+    return [over(u, divisor) for u in row]
+
+
+def unit_row(row):
+    s = length(row)
+    # A root is never below 0, so this refuses 0 alone.
+    check_above_zero(s)
+    return row_over(row, s)
+
+
 def row_minus(left, right):
     return [minus(u, v) for u, v in zip(left, right)]
 
@@ -146,3 +161,25 @@ def solve(n, near, most, b, x, answers):
 
 def slide(n, near, most, b, x, answers):
     return descended(n, near, most, b, x, answers, steepest)
+
+
+def power_rounds(asking, most, x):
+    x = unit_row(x)
+    value = ZERO
+    for turn in range(most):
+        y = asking.ask(x)
+        value = dot(x, y)
+        x = unit_row(y)
+    return [most] + x + [value]
+
+
+def power(n, most, x, answers):
+    asking = Asking(answers)
+
+    def reckon():
+        check_range(n, 1, MOST_DOUBLES)
+        check_range(most, 0, MOST_TIMES)
+        check_row(x)
+        return power_rounds(asking, most, x)
+
+    return told(asking, reckon)

@@ -66,6 +66,10 @@ def dot(x, y, name):
     return s
 
 
+def length(row, name):
+    return math.sqrt(dot(row, row, name))
+
+
 def begin(reckoning, n, near, most, b, x):
     """What solve and slide do ahead of their loops: r, c and e."""
     if not 1 <= n <= 4096 or not 0 <= most <= 4000:
@@ -123,6 +127,26 @@ def slide_steps(reckoning, n, near, most, b, x):
     return [times] + row_of_bits(x), "most" if times == most else "near"
 
 
+def power_steps(reckoning, n, most, x):
+    if not 1 <= n <= 4096 or not 0 <= most <= 4000:
+        raise Over([-2], "range")
+    for number in x:
+        finite(number, "handed over")
+    s = length(x, "x . x")
+    if s == 0.0:
+        raise Over([-5], "|x|")
+    x = [finite(x[i] / s, "x / s") for i in range(n)]
+    value = 0.0
+    for time in range(most):
+        y = reckoning.ask(x)
+        value = dot(x, y, "x . y")
+        s = length(y, "y . y")
+        if s == 0.0:
+            raise Over([-5], "|y|")
+        x = [finite(y[i] / s, "y / s") for i in range(n)]
+    return [most] + row_of_bits(x + [value]), "most"
+
+
 def outcome(steps, answers, arguments):
     """What the call must give back, and the step at which it was over."""
     reckoning = Reckoning(answers)
@@ -141,3 +165,7 @@ def solve(n, near, most, b, x, answers):
 def slide(n, near, most, b, x, answers):
     arguments = (n, double_of(near), most, row_of_doubles(b), row_of_doubles(x))
     return outcome(slide_steps, answers, arguments)
+
+
+def power(n, most, x, answers):
+    return outcome(power_steps, answers, (n, most, row_of_doubles(x)))
