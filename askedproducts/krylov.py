@@ -4,6 +4,7 @@ from askedproducts.doubles import NotFinite, above, check_finite, minus, over, p
 
 MOST_DOUBLES = 4096
 MOST_TIMES = 4000
+MOST_ROWS = 64
 ZERO = 0
 OUT_OF_RANGE = -2
 NOT_FINITE = -4
@@ -37,10 +38,14 @@ class Asking:
         return answer
 
     def asked(self):
-        numbers = [len(self.questions)]
-        for question in self.questions:
-            numbers.extend(question)
-        return numbers
+        return [len(self.questions)] + row_after_row(self.questions)
+
+
+def row_after_row(rows):
+    numbers = []
+    for row in rows:
+        numbers.extend(row)
+    return numbers
 
 
 def told(asking, reckon):
@@ -181,5 +186,41 @@ def power(n, most, x, answers):
         check_range(most, 0, MOST_TIMES)
         check_row(x)
         return power_rounds(asking, most, x)
+
+    return told(asking, reckon)
+
+
+def rows_of_zeros(count, size):
+    return [[ZERO] * size for row in range(count)]
+
+
+def arnoldi(asking, n, m, b):
+    q = rows_of_zeros(m + 1, n)
+    h = rows_of_zeros(m + 1, m)
+    q[0] = unit_row(b)
+    number = m
+    for j in range(m):
+        y = asking.ask(q[j])
+        for i in range(j + 1):
+            h[i][j] = dot(q[i], y)
+            y = row_minus_scaled(y, h[i][j], q[i])
+        s = length(y)
+        h[j + 1][j] = s
+        # A root is never 0 with a minus, so one look is enough.
+        if s == ZERO:
+            number = j + 1
+            break
+        q[j + 1] = row_over(y, s)
+    return [number] + row_after_row(q) + row_after_row(h)
+
+
+def basis(n, m, b, answers):
+    asking = Asking(answers)
+
+    def reckon():
+        check_range(n, 1, MOST_DOUBLES)
+        check_range(m, 1, MOST_ROWS)
+        check_row(b)
+        return arnoldi(asking, n, m, b)
 
     return told(asking, reckon)

@@ -1,6 +1,7 @@
 """What the tests of single calls share: a call held against the document's words, and doubles at the edges."""
 
 import copy
+import math
 import unittest
 
 import reference
@@ -14,7 +15,10 @@ LEAST = -2147483648
 GREATEST = 2147483647
 MINUS_ZERO = 1 << 63
 OUTSIDE_N = (0, -1, -64, LEAST, 4097, 4098, GREATEST)
+OUTSIDE_M = (0, -1, -16, LEAST, 65, 66, GREATEST)
 OUTSIDE_MOST = (-1, -2, LEAST, 4001, 4002, GREATEST)
+# The square of this falls to the least double, and that one's root is smaller than this.
+ABOVE_ITS_LENGTH = math.ldexp(1.2, -537)
 
 
 def rows_of_bits(rows):

@@ -22,6 +22,10 @@ def symmetric(source, n):
     return matrix
 
 
+def any_matrix(source, n):
+    return [[source.uniform(-3.0, 3.0) for j in range(n)] for i in range(n)]
+
+
 def true_answers(wanted, matrix, arguments):
     """Answers for each question in turn, till the call is told to its end."""
     answers = []

@@ -147,6 +147,33 @@ def power_steps(reckoning, n, most, x):
     return [most] + row_of_bits(x + [value]), "most"
 
 
+def basis_steps(reckoning, n, m, b):
+    if not 1 <= n <= 4096 or not 1 <= m <= 64:
+        raise Over([-2], "range")
+    for number in b:
+        finite(number, "handed over")
+    q = [[0.0] * n for row in range(m + 1)]
+    h = [[0.0] * m for row in range(m + 1)]
+    s = length(b, "b . b")
+    if s == 0.0:
+        raise Over([-5], "|b|")
+    q[0] = [finite(b[k] / s, "b / s") for k in range(n)]
+    number, step = m, "m"
+    for j in range(m):
+        y = reckoning.ask(q[j])
+        for i in range(j + 1):
+            h[i][j] = dot(q[i], y, "q . y")
+            moved = [finite(h[i][j] * q[i][k], "h * q") for k in range(n)]
+            y = [finite(y[k] - moved[k], "y - h * q") for k in range(n)]
+        s = length(y, "y . y")
+        h[j + 1][j] = s
+        if s == 0.0:
+            number, step = j + 1, "s"
+            break
+        q[j + 1] = [finite(y[k] / s, "y / s") for k in range(n)]
+    return [number] + row_of_bits(sum(q + h, [])), step
+
+
 def outcome(steps, answers, arguments):
     """What the call must give back, and the step at which it was over."""
     reckoning = Reckoning(answers)
@@ -169,3 +196,7 @@ def slide(n, near, most, b, x, answers):
 
 def power(n, most, x, answers):
     return outcome(power_steps, answers, (n, most, row_of_doubles(x)))
+
+
+def basis(n, m, b, answers):
+    return outcome(basis_steps, answers, (n, m, row_of_doubles(b)))

@@ -4,12 +4,10 @@ import copy
 import math
 import unittest
 
-from calls import LARGEST, MINUS_ZERO, NOT_FINITE, OUTSIDE_MOST, OUTSIDE_N, CallTest, rows_of_bits
+from calls import (
+    ABOVE_ITS_LENGTH, LARGEST, MINUS_ZERO, NOT_FINITE, OUTSIDE_MOST, OUTSIDE_N, CallTest, rows_of_bits,
+)
 from reference import bits_of, row_of_bits, row_of_doubles
-
-# The square of this falls to the least double, and that one's root is smaller than this.
-ABOVE_ITS_LENGTH = math.ldexp(1.2, -537)
-
 
 def call(most, x, answers):
     """The arguments of a call that is written with floats."""

@@ -4,12 +4,8 @@ import math
 import random
 import unittest
 
-from many import ManyTest, any_bits, plain_bits, symmetric, true_answers
+from many import ManyTest, any_bits, any_matrix, plain_bits, symmetric, true_answers
 from reference import bits_of, row_of_bits, row_of_doubles
-
-
-def any_matrix(source, n):
-    return [[source.uniform(-3.0, 3.0) for j in range(n)] for i in range(n)]
 
 
 class ManyPowerTest(ManyTest):
