@@ -224,3 +224,21 @@ def basis(n, m, b, answers):
         return arnoldi(asking, n, m, b)
 
     return told(asking, reckon)
+
+
+def both_products(asking, x, y):
+    first = dot(y, asking.ask(x))
+    second = dot(x, asking.ask(y))
+    return [0, first, second]
+
+
+def even(n, x, y, answers):
+    asking = Asking(answers)
+
+    def reckon():
+        check_range(n, 1, MOST_DOUBLES)
+        check_row(x)
+        check_row(y)
+        return both_products(asking, x, y)
+
+    return told(asking, reckon)

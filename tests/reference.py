@@ -174,6 +174,16 @@ def basis_steps(reckoning, n, m, b):
     return [number] + row_of_bits(sum(q + h, [])), step
 
 
+def even_steps(reckoning, n, x, y):
+    if not 1 <= n <= 4096:
+        raise Over([-2], "range")
+    for number in x + y:
+        finite(number, "handed over")
+    first = dot(y, reckoning.ask(x), "y . A x")
+    second = dot(x, reckoning.ask(y), "x . A y")
+    return [0] + row_of_bits([first, second]), "both"
+
+
 def outcome(steps, answers, arguments):
     """What the call must give back, and the step at which it was over."""
     reckoning = Reckoning(answers)
@@ -200,3 +210,7 @@ def power(n, most, x, answers):
 
 def basis(n, m, b, answers):
     return outcome(basis_steps, answers, (n, m, row_of_doubles(b)))
+
+
+def even(n, x, y, answers):
+    return outcome(even_steps, answers, (n, row_of_doubles(x), row_of_doubles(y)))
